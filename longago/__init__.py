@@ -1,0 +1,1 @@
+"""Longago: exact draws by walks that began long ago."""
