@@ -2,6 +2,7 @@
 
 from longago.errors import BadChain, NotOne
 from longago.exact import fraction, solved
+from longago.groups import groups_from
 
 MOST_PLACES = 6
 MOST_MOVES = 8
@@ -66,15 +67,7 @@ def closed(chain):
 
 def _reached(moves, begin):
     """The place to begin at, and all places that moves lead to from it, rising."""
-    found = [begin]
-    done = 0
-    while done < len(found):
-        for _, whither in moves:
-            end = whither[found[done]]
-            if end not in found:
-                found.append(end)
-        done += 1
-    return sorted(found)
+    return sorted([group[0] for group in groups_from(moves, (begin,))])
 
 
 def _is_closed(reached, group):

@@ -11,6 +11,11 @@ def fraction(top, bottom):
     return top // shared, bottom // shared
 
 
+def added(one, other):
+    """The sum of two fractions."""
+    return fraction(one[0] * other[1] + other[0] * one[1], one[1] * other[1])
+
+
 def solved(equations):
     """The fractions that solve the equations, which must have just one solution.
 

@@ -38,16 +38,23 @@ def _ends(chain, steps):
 
 def drawn(chain, numbers):
     """(place, far): the place that is drawn and how far back that goes, or None."""
+    return drawn_from(chain, list(range(chain.places())), numbers)
+
+
+def drawn_from(chain, begins, numbers):
+    """What drawn tells, by the walks from these places alone."""
     steps = steps_of(chain, numbers)
     ends = list(range(chain.places()))
+    seen = list(begins)
     far = 0
-    while far < len(steps) and not _are_one(ends):
+    while far < len(steps) and not _are_one(seen):
         # A walk that begins a step farther back first does that step,
         # and then ends where the walk from there is known to end.
         ends = [ends[place] for place in steps[far]]
+        seen = [ends[place] for place in begins]
         far += 1
-    if _are_one(ends):
-        return ends[0], far
+    if _are_one(seen):
+        return seen[0], far
     return None
 
 

@@ -1,7 +1,7 @@
 """Chains, rows and plain reckonings that the tests share."""
 
 from fractions import Fraction
-from itertools import product
+from itertools import combinations, product
 from random import Random
 
 from longago.chains import Chain
@@ -85,3 +85,64 @@ def step_of(chain, shares):
 def told_as(fraction):
     """A Fraction as Longago tells it."""
     return fraction.numerator, fraction.denominator
+
+
+def total_of(chain):
+    """The weight of all moves."""
+    return sum(weight for weight, _ in chain.told())
+
+
+def meeting_pairs(chain):
+    """All pairs of places that meet: those that a move leads to one place, or to a pair that meets."""
+    met = set()
+    for _ in range(16):
+        for pair in combinations(range(chain.places()), 2):
+            for _, whither in chain.told():
+                led = tuple(sorted(whither[place] for place in pair))
+                if led[0] == led[1] or led in met:
+                    met.add(pair)
+    return met
+
+
+def apart_pairs(chain):
+    """All pairs of places that never meet, rising."""
+    met = meeting_pairs(chain)
+    return [pair for pair in combinations(range(chain.places()), 2) if pair not in met]
+
+
+def chains_that_meet():
+    """Those of the chains of which all places meet."""
+    return [chain for chain in some_chains() if not apart_pairs(chain)]
+
+
+def chains_apart():
+    """Those of the chains of which some places never meet."""
+    return [chain for chain in some_chains() if apart_pairs(chain)]
+
+
+def behind_of(chain, weights):
+    """The weights of all groups of places, a step on."""
+    behind = {}
+    for group, weight in weights.items():
+        for more, whither in chain.told():
+            led = frozenset(whither[place] for place in group)
+            behind[led] = behind.get(led, 0) + weight * more
+    return behind
+
+
+def ordered_chains():
+    """(chain, order): chains of every size, and an order that all moves of the chain keep."""
+    dice = Random(12)
+    told = []
+    for many, moves in product(range(1, 7), range(1, 9)):
+        for _ in range(3):
+            order = dice.sample(range(many), many)
+            made = []
+            for _ in range(moves):
+                whither = [0] * many
+                stands = sorted(dice.randrange(many) for _ in order)
+                for place, stand in zip(order, stands):
+                    whither[place] = order[stand]
+                made.append((dice.choice([1, 2, 99]), tuple(whither)))
+            told.append((Chain(many, made), order))
+    return told

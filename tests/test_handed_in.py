@@ -5,35 +5,57 @@ import unittest
 from pathlib import Path
 
 import longago
-from helping import some_chains, some_rows
+from helping import ordered_chains, some_chains, some_rows
 from longago.chains import Chain, chances, closed, own
-from longago.errors import BadChain, LongError, NoSuch, NotOne
+from longago.errors import BadChain, BadText, LongError, NeverOne, NoSuch, NotOne, NotOrdered
+from longago.meetings import meeting
+from longago.orders import by_ends, first_order, keeps_order
+from longago.shares import far_mean, first_met, long_shares, shares
+from longago.texts import read, written
 from longago.walks import drawn, together, tries, walked
 
 MOVES = [(3, (1, 2, 0)), (2, (0, 0, 1)), (1, (1, 1, 1))]
 PARTED = [(1, (0, 1, 2, 1)), (2, (0, 2, 1, 0))]
+ORDERED = [(1, (0, 0, 1)), (2, (1, 2, 2))]
+
+OF_A_CHAIN = [
+    lambda chain: chain.places(), lambda chain: chain.told(), chances, closed, own, meeting, first_order,
+    lambda chain: shares(chain, 0), lambda chain: shares(chain, 3), long_shares, far_mean, first_met, written,
+]
+BY_A_ROW = [lambda chain, numbers: walked(chain, 0, numbers), together, drawn, tries]
+
+
+def order_of(chain):
+    """An order that all moves keep, where there is one, or else just an order."""
+    return first_order(chain) or list(range(chain.places()))
+
+
+def told_or_refused(call, *handed):
+    """What is told, or the refusal's name and what it has."""
+    try:
+        return call(*handed)
+    except LongError as error:
+        return [type(error).__name__, vars(error)]
 
 
 def answers(chain, numbers):
     """All that is told of a chain, in lists of its own."""
-    told = [chain.places(), chain.told(), chances(chain), closed(chain)]
-    try:
-        told.append(own(chain))
-    except NotOne as error:
-        told.append(error.groups)
-    told += [walked(chain, begin, numbers) for begin in range(chain.places())]
-    return told + [together(chain, numbers), drawn(chain, numbers), tries(chain, numbers)]
+    order = order_of(chain)
+    told = [told_or_refused(call, chain) for call in OF_A_CHAIN]
+    told += [told_or_refused(call, chain, numbers) for call in BY_A_ROW]
+    return told + [keeps_order(chain, order), told_or_refused(by_ends, chain, order, numbers)]
 
 
 def spoil(told):
-    """Change a list and all lists in it."""
-    for each in told:
-        if isinstance(each, list):
+    """Change all lists that are told, also those within lists, tuples and a refusal's values."""
+    if isinstance(told, dict):
+        told = list(told.values())
+    if isinstance(told, (list, tuple)):
+        for each in told:
             spoil(each)
-        elif isinstance(each, tuple):
-            spoil([part for part in each if isinstance(part, list)])
-    told.clear()
-    told.append("spoilt")
+    if isinstance(told, list):
+        told.clear()
+        told.append("spoilt")
 
 
 class HandedIn(unittest.TestCase):
@@ -67,16 +89,16 @@ class HandedIn(unittest.TestCase):
         for chain in some_chains():
             for numbers in some_rows(chain):
                 before = list(numbers)
-                answers(chain, numbers)
+                for call in BY_A_ROW:
+                    call(chain, numbers)
                 self.assertEqual(numbers, before)
 
     def test_a_row_is_as_it_was_behind_a_refusal(self):
         chain = Chain(3, MOVES)
         for numbers in [[3], [0, -1, 0], [2, 2, 2, 3]]:
             before = list(numbers)
-            for call in (together, drawn, tries):
+            for call in BY_A_ROW:
                 self.assertRaises(NoSuch, call, chain, numbers)
-            self.assertRaises(NoSuch, walked, chain, 0, numbers)
             self.assertEqual(numbers, before)
 
     def test_a_row_may_be_changed_by_its_owner(self):
@@ -86,28 +108,71 @@ class HandedIn(unittest.TestCase):
         numbers.reverse()
         self.assertEqual(answers(chain, [0, 1, 0, 1]), before)
 
+    def test_a_row_and_an_order_are_as_they_were_behind_by_ends(self):
+        for chain, order in ordered_chains():
+            for numbers in some_rows(chain):
+                row, kept = list(numbers), list(order)
+                by_ends(chain, kept, row)
+                self.assertTrue(keeps_order(chain, kept))
+                self.assertEqual((row, kept), (numbers, order))
+
+    def test_a_row_and_an_order_are_as_they_were_behind_a_refusal_by_ends(self):
+        chain = Chain(3, ORDERED)
+        for order, refusal in [([2, 1, 0], NoSuch), ([1, 0, 2], NotOrdered), ([2, 2, 0], NoSuch), ([2, 1], NoSuch)]:
+            row, kept = [1, 0, 2, -1], list(order)
+            self.assertRaises(refusal, by_ends, chain, kept, row)
+            told_or_refused(keeps_order, chain, kept)
+            self.assertEqual((row, kept), ([1, 0, 2, -1], order))
+
+    def test_an_order_may_be_changed_by_its_owner(self):
+        chain = Chain(3, ORDERED)
+        order = [2, 1, 0]
+        self.assertEqual(by_ends(chain, order, [1, 1]), (2, 2))
+        order.reverse()
+        self.assertEqual(by_ends(chain, order, [1, 1]), (2, 2))
+        order.append(0)
+        self.assertRaises(NoSuch, by_ends, chain, order, [1, 1])
+        self.assertEqual(by_ends(chain, [2, 1, 0], [1, 1]), (2, 2))
+
 
 class Told(unittest.TestCase):
     def test_lists_that_are_told_may_be_changed(self):
-        for moves in (MOVES, PARTED):
+        for moves in (MOVES, PARTED, ORDERED, [(1, (0,))]):
             many = len(moves[0][1])
-            for numbers in ([], [0], [1, 1, 0], [0] * 8):
+            for numbers in ([], [0], [0, 0, 0], [0] * 8):
                 chain = Chain(many, moves)
                 spoil(answers(chain, numbers))
                 self.assertEqual(answers(chain, numbers), answers(Chain(many, moves), numbers))
 
     def test_each_list_that_is_told_may_be_changed(self):
-        calls = [
-            lambda chain: chain.told(), chances, closed, own,
-            lambda chain: walked(chain, 1, [0, 1, 0]), lambda chain: together(chain, [0, 1, 0]),
-            lambda chain: tries(chain, [0, 0, 0, 0]), lambda chain: walked(chain, 1, []),
-            lambda chain: together(chain, []), lambda chain: tries(chain, []),
-        ]
-        chain = Chain(3, MOVES)
-        for call in calls:
-            wanted = call(Chain(3, MOVES))
-            spoil(call(chain))
-            self.assertEqual(call(chain), wanted)
+        rows = ([], [0, 1, 0, 0])
+        by_rows = [lambda chain, by=by, row=row: by(chain, row) for by in BY_A_ROW for row in rows]
+        for moves in (MOVES, PARTED, ORDERED):
+            many = len(moves[0][1])
+            chain = Chain(many, moves)
+            for call in OF_A_CHAIN + by_rows:
+                wanted = told_or_refused(call, Chain(many, moves))
+                spoil(told_or_refused(call, chain))
+                self.assertEqual(told_or_refused(call, chain), wanted)
+
+    def test_the_row_and_the_pairs_of_meeting_may_be_changed(self):
+        chain = Chain(3, ORDERED)
+        meeting(chain)[1].append(7)
+        self.assertEqual(meeting(chain), ("row", [0, 0]))
+        chain = Chain(4, PARTED)
+        wanted = list(meeting(chain)[1])
+        meeting(chain)[1].clear()
+        self.assertEqual(meeting(chain), ("apart", wanted))
+        alone = Chain(1, [(1, (0,))])
+        meeting(alone)[1].append(0)
+        self.assertEqual(meeting(alone), ("row", []))
+
+    def test_the_list_in_the_tuple_of_shares_may_be_changed(self):
+        chain = Chain(3, ORDERED)
+        for far in (0, 2, 20):
+            wanted = shares(Chain(3, ORDERED), far)
+            shares(chain, far)[0].clear()
+            self.assertEqual(shares(chain, far), wanted)
 
     def test_the_groups_of_not_one_may_be_changed(self):
         chain = Chain(4, PARTED + [(1, (0, 1, 2, 3))])
@@ -127,16 +192,39 @@ class Told(unittest.TestCase):
 
 class Alone(unittest.TestCase):
     def test_the_same_answers_each_time(self):
-        for chain in some_chains():
-            for numbers in some_rows(chain):
+        for chain in some_chains()[::3]:
+            for numbers in some_rows(chain)[::4]:
                 self.assertEqual(answers(chain, numbers), answers(chain, numbers))
+
+    def test_two_chains_by_turns(self):
+        """Each call is done of one chain and then of the other, and tells what it tells of a chain asked alone."""
+        chains = some_chains()
+        for one, other in list(zip(chains, chains[1:] + chains[:1]))[::5]:
+            for call in OF_A_CHAIN + [lambda chain, by=by: by(chain, [0, 0, 0]) for by in BY_A_ROW]:
+                alone = [told_or_refused(call, Chain(chain.places(), chain.told())) for chain in (one, other)]
+                by_turns = [told_or_refused(call, chain) for chain in (one, other, one, other)]
+                self.assertEqual(by_turns, alone + alone)
+
+    def test_a_text_that_is_read_leaves_other_chains_as_they_are(self):
+        one, other = read("places 2\nmove 1: 0 0"), read("places 2\nmove 2: 1 1\nmove 3: 1 0")
+        self.assertEqual(one.told(), [(1, (0, 0))])
+        self.assertEqual(other.told(), [(2, (1, 1)), (3, (1, 0))])
+        self.assertRaises(BadText, read, "places 2\nmove 2: 1 1\nmove")
+        self.assertEqual(written(one), "places 2\nmove 1: 0 0")
 
     def test_a_refusal_changes_nothing(self):
         chain = Chain(3, MOVES)
         before = answers(chain, [0, 1])
         for call in (together, drawn, tries):
             self.assertRaises(LongError, call, chain, [0, 3])
+        self.assertRaises(NotOrdered, by_ends, chain, [0, 1, 2], [0])
+        self.assertRaises(NoSuch, shares, chain, 21)
         self.assertEqual(answers(chain, [0, 1]), before)
+        apart = Chain(4, PARTED)
+        before = answers(apart, [0, 1])
+        for call in (long_shares, far_mean, first_met):
+            self.assertRaises(NeverOne, call, apart)
+        self.assertEqual(answers(apart, [0, 1]), before)
 
     def test_no_clock_no_chance_and_no_files(self):
         """Nothing is imported but the package itself and whole numbers' reckoning."""
